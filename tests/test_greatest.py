@@ -3,44 +3,7 @@
 import random
 import unittest
 
-from tests.helper import GREATEST, act, begins, from_state, last_answer, prices
-
-
-def has_all(state, facts):
-    return all((state >> k) % 2 == 1 for k in facts)
-
-
-def facts_of(number):
-    return [k for k in range(5) if (number >> k) % 2 == 1]
-
-
-def behind(state, told):
-    """The state behind an act, fact by fact as the words tell it; None if it may not be done."""
-    needs, bars, brings, takes = [facts_of(number) for number in told[:4]]
-    so = facts_of(state)
-    if any(k not in so for k in needs) or any(k in so for k in bars):
-        return None
-    return sum(1 << k for k in range(5) if k in brings or (k in so and k not in takes))
-
-
-def come_to(first, acts):
-    """Every state that can be come to, by trying all states until none is new."""
-    there = {first}
-    while True:
-        more = {behind(state, told) for state in there for told in acts} - {None}
-        if more <= there:
-            return there
-        there |= more
-
-
-def greatest_by_the_words(first, wanted, acts):
-    """Each set of wishes is tried, as the words tell it, and each wish more."""
-    there = come_to(first, acts)
-    sets = [wishes for wishes in range(32) if has_all(wanted, facts_of(wishes))]
-    had = [wishes for wishes in sets if any(has_all(state, facts_of(wishes)) for state in there)]
-    ones = [wishes for wishes in had
-            if not any((wishes | (1 << k)) in had for k in facts_of(wanted) if k not in facts_of(wishes))]
-    return [len(ones)] + ones
+from tests.helper import GREATEST, act, begins, from_state, greatest_by_the_words, last_answer, prices
 
 
 def greatest(n, first, wanted, *acts):

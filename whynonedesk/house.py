@@ -1,12 +1,19 @@
 """The house, the calls on it, and how lists of calls and of answers are laid out."""
 
-from whynonedesk.reach import Act, greatest_sets, reached_states
+from whynonedesk.plans import change_to, conditions_in_the_way, first_cheapest_plan
+from whynonedesk.plans import costs_from, costs_through, costs_to
+from whynonedesk.reach import Act, greatest_sets, least_sets, reached_states
 
 BEGINS = 0
 ACT = 1
 FROM_STATE = 2
 PRICES = 3
 GREATEST = 4
+LEAST = 5
+OTHERWISE = 6
+INWAY = 7
+WHY = 8
+PLAN = 9
 
 MOST_FACTS = 5
 MOST_ACTS = 8
@@ -15,6 +22,9 @@ ACT_NUMBERS = 5
 
 DONE = 0
 NOT_AS_TOLD = -1
+NO_SUCH_ACT = -2
+THERE_IS_A_PLAN = -3
+NO_PLAN = -6
 ACTS_ARE_FULL = -7
 
 
@@ -66,6 +76,45 @@ class House:
         sets = greatest_sets(reached_states(self.first, self.acts), self.wanted)
         return [len(sets)] + sets
 
+    def least(self):
+        sets = least_sets(reached_states(self.first, self.acts), self.wanted)
+        return [len(sets)] + sets
+
+    def otherwise(self):
+        changes = [change_to(state, self.first, self.price_list) for state in self.plan_costs()]
+        # To have all wishes so at first is a change with a plan: no call leads to this refusal.
+        if changes == []:
+            return [NO_PLAN]
+        cheapest = min(changes)
+        return [cheapest[0]] + cheapest[2]
+
+    def inway(self):
+        if self.first in self.plan_costs():
+            return [THERE_IS_A_PLAN]
+        conditions = conditions_in_the_way(self.first, self.wanted, self.acts, self.fact_count)
+        answer = [len(conditions)]
+        for condition in conditions:
+            answer.extend(condition)
+        return answer
+
+    def why(self, k):
+        if k >= len(self.acts):
+            return [NO_SUCH_ACT]
+        costs = self.plan_costs()
+        any_plan = [costs[self.first]] if self.first in costs else []
+        with_act = costs_through(self.acts[k], costs_from(self.first, self.acts, self.fact_count), costs)
+        act_first = costs_through(self.acts[k], {self.first: 0}, costs)
+        return [DONE] + cheapest_if_any(any_plan) + cheapest_if_any(with_act) + cheapest_if_any(act_first)
+
+    def plan(self):
+        costs = self.plan_costs()
+        if self.first not in costs:
+            return [NO_PLAN]
+        return [costs[self.first]] + first_cheapest_plan(self.first, self.acts, costs)
+
+    def plan_costs(self):
+        return costs_to(self.wanted, self.acts, self.fact_count)
+
 
 class Reader:
     def __init__(self, calls):
@@ -94,6 +143,10 @@ def is_cost(number):
     return 1 <= number <= MOST_COST
 
 
+def cheapest_if_any(costs):
+    return [1, min(costs)] if len(costs) > 0 else [0]
+
+
 def next_answer(house, reader):
     call = reader.number()
     if call == BEGINS:
@@ -111,6 +164,16 @@ def next_answer(house, reader):
         return house.prices(reader.row())
     if call == GREATEST:
         return house.greatest()
+    if call == LEAST:
+        return house.least()
+    if call == OTHERWISE:
+        return house.otherwise()
+    if call == INWAY:
+        return house.inway()
+    if call == WHY:
+        return house.why(reader.number())
+    if call == PLAN:
+        return house.plan()
     raise CallNotThere(f"there is no call {call}")
 
 
